@@ -1,0 +1,1 @@
+"""Queries over a build graph: dependencies, paths, kinds, marks, exact answers."""
