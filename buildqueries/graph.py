@@ -1,16 +1,18 @@
 """The calls on one graph, as a list of whole numbers, and their answers, as another."""
 
-from buildqueries.meaning import meaning
-from buildqueries.reader import read_query
+from buildqueries.asking import alike, path, plain, query, where
 from buildqueries.refusals import Refusal
 from buildqueries.store import Graph
-from buildqueries.walks import members
 
 NODE = 0
 EDGE = 1
 CUT = 2
 MARK = 3
 QUERY = 4
+WHERE = 5
+PLAIN = 6
+PATH = 7
+ALIKE = 8
 FAR = 9
 
 
@@ -36,8 +38,19 @@ class Feed:
         return row
 
 
-def query(graph, text):
-    return [0] + members(meaning(graph, read_query(text), {}))
+def done_by_numbers(graph, call, feed):
+    """A call on nodes and edges: the one number that it answers."""
+    if call == NODE:
+        return graph.add_node(feed.take_row(), feed.take_row())
+    if call == EDGE:
+        return graph.add_edge(feed.take_number(), feed.take_number())
+    if call == CUT:
+        return graph.cut_edge(feed.take_number(), feed.take_number())
+    if call == MARK:
+        return graph.put_mark(feed.take_number(), feed.take_row(), feed.take_row())
+    if call == FAR:
+        return graph.far(feed.take_number(), feed.take_number())
+    raise ValueError(f"there is no call {call}")
 
 
 def done(graph, feed):
@@ -46,19 +59,17 @@ def done(graph, feed):
     All of a call's numbers are taken before it is done: a refused call is passed over whole.
     """
     call = feed.take_number()
-    if call == NODE:
-        return [graph.add_node(feed.take_row(), feed.take_row())]
-    if call == EDGE:
-        return [graph.add_edge(feed.take_number(), feed.take_number())]
-    if call == CUT:
-        return [graph.cut_edge(feed.take_number(), feed.take_number())]
-    if call == MARK:
-        return [graph.put_mark(feed.take_number(), feed.take_row(), feed.take_row())]
     if call == QUERY:
         return query(graph, feed.take_row())
-    if call == FAR:
-        return [graph.far(feed.take_number(), feed.take_number())]
-    raise NotImplementedError(f"call {call}")
+    if call == WHERE:
+        return where(feed.take_row())
+    if call == PLAIN:
+        return plain(feed.take_row())
+    if call == PATH:
+        return path(graph, feed.take_row(), feed.take_row())
+    if call == ALIKE:
+        return alike(graph, feed.take_row(), feed.take_row())
+    return [done_by_numbers(graph, call, feed)]
 
 
 def answer(graph, feed):

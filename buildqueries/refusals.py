@@ -67,3 +67,10 @@ class DeepFault(Fault):
 class VariableFault(Fault):
     def __init__(self, position):
         Fault.__init__(self, -15, position)
+
+
+class SecondRefusal(Refusal):
+    """What a query is refused with, where it is the second of two."""
+
+    def __init__(self, number):
+        Refusal.__init__(self, number - 10)

@@ -35,6 +35,22 @@ def query(text):
     return [4] + row(text)
 
 
+def where(text):
+    return [5] + row(text)
+
+
+def plain(text):
+    return [6] + row(text)
+
+
+def path(a, b):
+    return [7] + row(a) + row(b)
+
+
+def alike(a, b):
+    return [8] + row(a) + row(b)
+
+
 def far(a, b):
     return [9, a, b]
 
@@ -62,6 +78,14 @@ def ask(*calls):
 
 def ask_last(*calls):
     return ask(*calls)[-1]
+
+
+def fault(text):
+    """The refusal's number and the position that where tells of a text, or None if it can be read."""
+    told = ask_last(where(text))
+    if len(told) != 2:
+        raise AssertionError(f"where tells {told}")
+    return None if told == [0, 0] else (-10 - told[0], told[1])
 
 
 def nodes(count):

@@ -204,6 +204,14 @@ class FarCall(unittest.TestCase):
         calls = nodes(3) + edges((0, 1), (1, 0))
         self.assertEqual(ask(*calls, far(0, 1), far(1, 0), far(0, 2))[5:], [[1], [1], [-1]])
 
+    def test_to_itself_in_a_circle(self):
+        calls = nodes(3) + edges((0, 1), (1, 2), (2, 0), (1, 1))
+        self.assertEqual(ask(*calls, far(0, 0), far(1, 1), far(2, 2))[7:], [[0], [0], [0]])
+
+    def test_around_a_circle(self):
+        calls = nodes(4) + edges((0, 1), (1, 2), (2, 3), (3, 0))
+        self.assertEqual(ask(*calls, far(0, 3), far(3, 0), far(3, 2), far(1, 3))[8:], [[3], [1], [3], [2]])
+
     def test_a_circle_that_is_not_reached(self):
         calls = nodes(4) + edges((0, 1), (1, 0), (2, 2))
         self.assertEqual(ask(*calls, far(3, 0), far(2, 0), far(3, 2))[7:], [[-1], [-1], [-1]])
@@ -217,6 +225,13 @@ class FarCall(unittest.TestCase):
             for a, b in ((wrong, 0), (0, wrong), (wrong, wrong)):
                 with self.subTest((a, b)):
                     self.assertEqual(ask_last(*nodes(2), edge(0, 1), far(a, b)), [NODE])
+
+    def test_without_nodes(self):
+        self.assertEqual(ask(far(0, 0)), [[NODE]])
+
+    def test_follows_edge_and_cut(self):
+        told = ask(*nodes(3), far(0, 2), *edges((0, 1), (1, 2)), far(0, 2), edge(0, 2), far(0, 2), cut(0, 2), cut(1, 2), far(0, 2))
+        self.assertEqual(told[3:], [[-1], [1], [1], [2], [1], [1], [0], [0], [-1]])
 
 
 if __name__ == "__main__":

@@ -2,9 +2,7 @@
 
 import unittest
 
-from buildqueries.reader import read_query
-from buildqueries.refusals import Fault
-from tests.helper import ask, edge, node, octets, query
+from tests.helper import ask, edge, node, query, where
 
 EXAMPLE = [
     node("app", "bin"),
@@ -27,11 +25,11 @@ QUERIES = [
 ]
 
 FAULTS = [
-    ('deps("app"', -13, 10),
-    ("deps(x)", -13, 5),
-    ("$x", -15, 0),
-    ('""', -12, 0),
-    ("", -13, 0),
+    ('deps("app"', 3, 10),
+    ("deps(x)", 3, 5),
+    ("$x", 5, 0),
+    ('""', 2, 0),
+    ("", 3, 0),
 ]
 
 
@@ -44,17 +42,25 @@ class Example(unittest.TestCase):
             with self.subTest(text):
                 self.assertEqual(ask(*EXAMPLE, query(text))[-1], wanted)
 
+    def test_where(self):
+        for text, number, position in FAULTS:
+            with self.subTest(text):
+                self.assertEqual(ask(*EXAMPLE, where(text))[-1], [number, position])
+
+    def test_where_of_the_queries(self):
+        for text, wanted in QUERIES:
+            with self.subTest(text):
+                self.assertEqual(ask(*EXAMPLE, where(text))[-1], [0, 0])
+
     def test_faults_are_refused(self):
         for text, number, position in FAULTS:
             with self.subTest(text):
-                self.assertEqual(ask(*EXAMPLE, query(text))[-1], [number])
+                self.assertEqual(ask(*EXAMPLE, query(text))[-1], [-10 - number])
 
-    def test_faults_know_their_position(self):
-        for text, number, position in FAULTS:
-            with self.subTest(text):
-                with self.assertRaises(Fault) as caught:
-                    read_query(tuple(octets(text)))
-                self.assertEqual((caught.exception.number, caught.exception.position), (number, position))
+    def test_all_in_one_line(self):
+        asked = [query(text) for text, wanted in QUERIES] + [where(text) for text, number, position in FAULTS]
+        wanted = [told for text, told in QUERIES] + [[number, position] for text, number, position in FAULTS]
+        self.assertEqual(ask(*EXAMPLE, *asked)[len(EXAMPLE):], wanted)
 
 
 if __name__ == "__main__":

@@ -4,10 +4,8 @@ import random
 import re
 import unittest
 
-from buildqueries.reader import read_query
-from buildqueries.refusals import Fault
 from tests.helper import DEEP, LONG, SYNTAX, TOKEN, UNKNOWN, VARIABLE
-from tests.helper import ask, cut, edge, far, mark, node, octets, query
+from tests.helper import alike, ask, cut, edge, far, fault, mark, node, path, query
 
 KINDS = ["bin", "lib", "test"]
 MARKS = ["m", "n"]
@@ -67,7 +65,7 @@ class World:
 
     def chosen(self, start, goal):
         found = [self.paths[a, b] for a in start for b in goal if (a, b) in self.paths]
-        return set(min(found, key=lambda path: (len(path), path))) if found else set()
+        return min(found, key=lambda path: (len(path), path)) if found else ()
 
     def leaves(self, group):
         return {a for a in group if not any((a, b) in self.edges for b in group - {a})}
@@ -154,7 +152,7 @@ class Maker:
         if one is None or two is None:
             return text, None
         if word == "somepath":
-            return text, self.world.chosen(one, two)
+            return text, set(self.world.chosen(one, two))
         return text, self.world.deps(one) & self.world.needing(two, limit)
 
     def picked(self, word, inner, group):
@@ -186,6 +184,29 @@ class Meant(unittest.TestCase):
             building = world.calls()
             told = ask(*building, *[query(text) for text, meant in made], *[far(a, b) for a, b in pairs])
             self.assertEqual(told[len(building):], wanted, (world.names, sorted(world.edges), made))
+
+    def pair_refusal(self, a, b):
+        """What a pair of queries that can be read is refused with, or None."""
+        return [UNKNOWN] if a is None else [UNKNOWN - 10] if b is None else None
+
+    def test_path_and_alike(self):
+        dice = random.Random(25)
+        seen = set()
+        for turn in range(150):
+            world = World(dice)
+            maker = Maker(dice, world)
+            made = [maker.expr(dice.randint(0, 3), {}) for count in range(20)]
+            made = [(text, meant) for text, meant in made if len(text) <= 1024]
+            pairs = [(dice.choice(made), dice.choice(made)) for count in range(30)]
+            asked, wanted = [], []
+            for (a, start), (b, goal) in pairs:
+                refusal = self.pair_refusal(start, goal)
+                asked += [path(a, b), alike(a, b)]
+                wanted += [refusal or [0] + list(world.chosen(start, goal)), refusal or [1 if start == goal else 0]]
+            building = world.calls()
+            self.assertEqual(ask(*building, *asked)[len(building):], wanted, (world.names, sorted(world.edges), pairs))
+            seen |= {tuple(told) if told[0] < 0 else len(told) for told in wanted[::2]}
+        self.assertLessEqual({(UNKNOWN,), (UNKNOWN - 10,), 1, 2, 3, 4}, seen)
 
 
 TOKEN_FORMS = re.compile(
@@ -280,12 +301,10 @@ PIECES = ["(", ")", ",", "+", "-", "&", "=", "all", "let", "in", "$x", "$y", '"a
 
 
 class Read(unittest.TestCase):
+    """where, against the stack of wishes."""
+
     def check(self, text):
-        try:
-            read_query(tuple(octets(text)))
-            found = None
-        except Fault as fault:
-            found = (fault.number, fault.position)
+        found = fault(text)
         self.assertEqual(found, model_fault(text), text)
         return found
 

@@ -1,20 +1,9 @@
-"""Promise 5, the reading: tokens, grammar, levels, variables, and which fault counts."""
+"""Promises 5 and 6, the reading: tokens, grammar, levels, variables, and which fault counts."""
 
 import unittest
 
-from buildqueries.reader import read_query
-from buildqueries.refusals import Fault
 from tests.helper import DEEP, LONG, SYNTAX, TOKEN, UNKNOWN, VARIABLE
-from tests.helper import ask_last, node, octets, query
-
-
-def fault(text):
-    """The refusal's number and the position, or None if the text can be read."""
-    try:
-        read_query(tuple(octets(text)))
-    except Fault as found:
-        return (found.number, found.position)
-    return None
+from tests.helper import ask_last, fault, node, query
 
 
 class Reading(unittest.TestCase):
